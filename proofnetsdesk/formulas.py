@@ -30,6 +30,21 @@ def is_atom_kind(kind):
     return kind == PLAIN or kind == TURNED
 
 
+def kind_of(formula):
+    return formula[0][0]
+
+
+# The two formulas that a tensor or a par is of.
+def halves(formula):
+    end = 1
+    # How many formulas are still to come before the first one is whole.
+    due = 1
+    while due > 0:
+        due += -1 if is_atom_kind(formula[end][0]) else 1
+        end += 1
+    return [formula[1:end], formula[end:]]
+
+
 def in_brackets(text):
     return [OPENING] + text + [CLOSING]
 

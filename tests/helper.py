@@ -4,6 +4,7 @@ The reference follows the document word by word and shares no code with the pack
 """
 
 import functools
+import itertools
 import os
 import sys
 
@@ -16,6 +17,8 @@ from proofnetsdesk.search import answers
 FORM = [1]
 MATCHINGS = [2]
 NETS = [3]
+FORCED = [8]
+PROVABLE = [9]
 
 
 def as_bytes(text):
@@ -41,6 +44,22 @@ def place(text):
 
 def behind(text):
     return with_row(6, text)
+
+
+def linked(i, j):
+    return [7, i, j]
+
+
+def splits(k):
+    return [10, k]
+
+
+def shut(i):
+    return [11, i]
+
+
+def opened(i):
+    return [12, i]
 
 
 def taken_apart(flat):
@@ -279,6 +298,148 @@ def reference_is_net(formulas, pairs):
 
 def links_text(pairs):
     return " ".join(f"{one}-{other}" for one, other in sorted(pairs))
+
+
+@functools.lru_cache(maxsize=None)
+def reference_nets(formulas):
+    return [pairs for pairs in reference_matchings(formulas) if reference_is_net(formulas, pairs)]
+
+
+# The reference: provable, with every choice tried that the document names. Formulas are in a tuple.
+
+@functools.lru_cache(maxsize=None)
+def reference_provable(formulas):
+    if len(formulas) == 2 and formulas[0][0] == "atom" and formulas[1] == reference_dual(formulas[0]):
+        return True
+    for place, formula in enumerate(formulas):
+        if formula[0] == "|" and reference_provable(formulas[:place] + formula[1:] + formulas[place + 1:]):
+            return True
+        if formula[0] == "*" and reference_splits(formulas, place):
+            return True
+    return False
+
+
+def reference_splits(formulas, place):
+    """For each split, in their order, how many formulas are given to the first one."""
+    first, second = formulas[place][1:]
+    others = formulas[:place] + formulas[place + 1:]
+    found = []
+    for way in itertools.product("AB", repeat=len(others)):
+        to_first = tuple(other for other, side in zip(others, way) if side == "A")
+        to_second = tuple(other for other, side in zip(others, way) if side == "B")
+        if reference_provable((first,) + to_first) and reference_provable((second,) + to_second):
+            found.append(len(to_first))
+    return found
+
+
+class ReferenceDesk:
+    """Answers the calls one by one, for sequents whose matchings can all be tried."""
+
+    def __init__(self):
+        self.formulas = tuple(reference_sequent("a, ~a"))
+
+    def answer(self, call):
+        asked = (self.sequent, self.form, self.matchings, self.nets, self.nth, self.place, self.behind, self.linked,
+                 self.forced, self.provable, self.splits, self.shut, self.opened)[call[0]]
+        if call[0] in (0, 5, 6):
+            return asked(bytes(call[2:]).decode("latin-1"))
+        return asked(*call[1:])
+
+    def leaf_count(self):
+        return len(leaves_of(self.formulas))
+
+    def ordered_nets(self):
+        return reference_nets(self.formulas)
+
+    def links_of(self, text):
+        """The matching with these links, or None."""
+        for pairs in reference_matchings(self.formulas):
+            if links_text(pairs) == text:
+                return pairs
+        return None
+
+    def sequent(self, text):
+        formulas = reference_sequent(text)
+        if formulas is None:
+            return [-1]
+        if len(leaves_of(formulas)) > 24:
+            return [-5]
+        self.formulas = tuple(formulas)
+        return [self.leaf_count()]
+
+    def form(self):
+        return counted(", ".join(reference_form(formula) for formula in self.formulas))
+
+    def matchings(self):
+        return [len(reference_matchings(self.formulas))]
+
+    def nets(self):
+        return [len(self.ordered_nets())]
+
+    def nth(self, k):
+        if k < 0:
+            return [-2]
+        nets = self.ordered_nets()
+        return counted(links_text(nets[k])) if k < len(nets) else [-4]
+
+    def place(self, text):
+        pairs = self.links_of(text)
+        if pairs is None:
+            return [-1]
+        before = [net for net in self.ordered_nets() if comes_before(net, pairs) < 0]
+        return [len(before)] if reference_is_net(self.formulas, pairs) else [-4]
+
+    def behind(self, text):
+        pairs = self.links_of(text)
+        if pairs is None:
+            return [-1]
+        later = [net for net in self.ordered_nets() if comes_before(net, pairs) > 0]
+        return counted(links_text(later[0])) if later else [-4]
+
+    def linked(self, i, j):
+        numbers = range(self.leaf_count())
+        if i not in numbers or j not in numbers:
+            return [-2]
+        return [len([net for net in self.ordered_nets() if (i, j) in net or (j, i) in net])]
+
+    def forced(self):
+        nets = self.ordered_nets()
+        if not nets:
+            return [-4]
+        common = sorted(set.intersection(*[set(net) for net in nets]))
+        return [len(common)] + [leaf for pair in common for leaf in pair]
+
+    def provable(self):
+        if self.leaf_count() > 12:
+            return [-8]
+        return [int(reference_provable(self.formulas))]
+
+    def splits(self, k):
+        if k not in range(len(self.formulas)) or self.formulas[k][0] != "*":
+            return [-4]
+        if self.leaf_count() > 12:
+            return [-8]
+        found = reference_splits(self.formulas, k)
+        return [len(found)] + found
+
+    def shut(self, i):
+        numbers = range(len(self.formulas))
+        if i not in numbers or i + 1 not in numbers:
+            return [-4]
+        self.formulas = self.formulas[:i] + (("|",) + self.formulas[i:i + 2],) + self.formulas[i + 2:]
+        return [len(self.formulas)]
+
+    def opened(self, i):
+        if i not in range(len(self.formulas)) or self.formulas[i][0] != "|":
+            return [-4]
+        if len(self.formulas) + 1 > 20:
+            return [-5]
+        self.formulas = self.formulas[:i] + self.formulas[i][1:] + self.formulas[i + 1:]
+        return [len(self.formulas)]
+
+
+def counted(text):
+    return [len(text)] + as_bytes(text)
 
 
 # Texts of sequents that are made, always the same ones, for the tests that go through many.

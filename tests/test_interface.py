@@ -5,7 +5,8 @@ import io
 import sys
 import unittest
 
-from helper import FORM, MATCHINGS, NETS, answers, behind, nth, place, run, sequent, told
+from helper import (FORCED, FORM, MATCHINGS, NETS, PROVABLE, answers, behind, linked, nth, opened, place, run, sequent,
+                    shut, splits, told)
 
 MANY = "*".join(["a"] * 12) + ", " + "|".join(["~a"] * 12)
 
@@ -23,7 +24,10 @@ class Untouched(list):
 def a_long_line():
     calls = [FORM, sequent("a*a, ~a|~a"), FORM, MATCHINGS, NETS, nth(0), nth(1), nth(2), nth(-1), place("0-2 1-3"),
              place("0-3 1-2"), place("1-3 0-2"), behind("0-2 1-3"), behind("0-3 1-2"), behind(""), sequent("a*b|c"),
-             sequent(MANY), MATCHINGS, NETS, nth(0), sequent(""), FORM, MATCHINGS, NETS, place(""), behind("")]
+             sequent(MANY), MATCHINGS, NETS, nth(0), linked(0, 1), FORCED, PROVABLE, splits(0), sequent(""), FORM,
+             MATCHINGS, NETS, place(""), behind(""), linked(0, 0), FORCED, PROVABLE, splits(0), shut(0), opened(0),
+             sequent("a*a*b, ~a, ~a, ~b"), linked(0, 4), linked(5, 2), linked(0, 6), FORCED, PROVABLE, splits(0),
+             splits(1), shut(1), FORM, splits(0), NETS, opened(1), FORM, opened(0), shut(3)]
     return [number for call in calls for number in call]
 
 
@@ -36,6 +40,13 @@ class Form(unittest.TestCase):
         self.assertEqual(answers([4, -3]), [1, -2])
         self.assertEqual(answers([5, 3, 48, 45, 49]), [1, 0])
         self.assertEqual(answers([6, 3, 48, 45, 49]), [1, -4])
+        self.assertEqual(answers([7, 0, 1]), [1, 1])
+        self.assertEqual(answers([7, 0, 2]), [1, -2])
+        self.assertEqual(answers([8]), [3, 1, 0, 1])
+        self.assertEqual(answers([9]), [1, 1])
+        self.assertEqual(answers([10, 0]), [1, -4])
+        self.assertEqual(answers([11, 0]), [1, 1])
+        self.assertEqual(answers([12, 0]), [1, -4])
         self.assertEqual(answers([0, 1, 97]), [1, 1])
         self.assertEqual(answers([0, 0]), [1, 0])
         self.assertEqual(answers([0, 0, 1]), [1, 0, 1, 0])
@@ -43,6 +54,10 @@ class Form(unittest.TestCase):
     def test_calls_stand_one_behind_another(self):
         self.assertEqual(answers([0, 3, 97, 124, 98, 1, 2, 4, 0, 5, 0, 6, 1, 32, 3]),
                          [1, 2, 4, 3, 97, 124, 98, 1, 0, 1, -4, 1, -1, 1, -1, 1, 0])
+
+    def test_numbers_that_look_like_calls(self):
+        got = answers([11, 0, 7, 1, 0, 10, 8, 12, 0, 7, 8, 9, 8, 9, 11, 12, 1])
+        self.assertEqual(got, [1, 1, 1, 1, 1, -4, 1, 2, 1, -2, 3, 1, 0, 1, 1, 1, 1, -4, 6, 5, 97, 44, 32, 126, 97])
 
     def test_whole_numbers_in_a_list(self):
         got = answers(a_long_line())
@@ -104,11 +119,15 @@ class Refused(unittest.TestCase):
             (sequent("a*b|c"), -1), (sequent(","), -1), (sequent(",".join(["a"] * 21)), -1),
             (sequent("a" + " " * 2000), -1), (sequent("*".join(["a"] * 25)), -5), (nth(-1), -2), (nth(2), -4),
             (place("0-1 2-3"), -1), (place("0-1 2-3 4-5"), -4), (behind("0-1"), -1), (behind("0-5 1-2 3-4"), -4),
+            (linked(-1, 0), -2), (linked(0, 6), -2), (splits(2), -4), (splits(-1), -4), (splits(4), -4), (shut(3), -4),
+            (shut(-1), -4), (opened(0), -4), (opened(3), -4), (opened(4), -4), (opened(-1), -4),
         ]
-        ask = [FORM, MATCHINGS, NETS, nth(0), nth(1), place("0-5 1-2 3-4"), behind("0-3 1-4 2-5")]
+        ask = [FORM, MATCHINGS, NETS, nth(0), nth(1), place("0-5 1-2 3-4"), behind("0-3 1-4 2-5"), linked(0, 5), FORCED,
+               PROVABLE, splits(0), splits(1)]
         begin = sequent("a*~a, a*~a, a, ~a")
         before = run(begin, *ask)[1:]
         self.assertEqual(before[1:3] + before[5:6], [[6], [2], [1]])
+        self.assertEqual(before[7:], [[1], [0], [1], [2, 2, 1], [2, 2, 1]])
         for call, number in refused:
             got = run(begin, call, *ask)
             self.assertEqual(got[1], [number], call)
@@ -118,10 +137,33 @@ class Refused(unittest.TestCase):
 
     def test_too_many_matchings_leave_everything_as_it_was(self):
         links = " ".join(f"{leaf}-{leaf + 12}" for leaf in range(12))
-        got = run(sequent(MANY), NETS, nth(0), place(links), behind(links), FORM, MATCHINGS)
-        self.assertEqual(got[1:5], [[-7]] * 4)
-        self.assertEqual(told(got[5]), MANY)
-        self.assertEqual(got[6], [479001600])
+        got = run(sequent(MANY), NETS, nth(0), place(links), behind(links), linked(0, 12), FORCED, FORM, MATCHINGS)
+        self.assertEqual(got[1:7], [[-7]] * 6)
+        self.assertEqual(told(got[7]), MANY)
+        self.assertEqual(got[8], [479001600])
+
+    def test_too_many_leaves_leave_everything_as_it_was(self):
+        text = "a*b*c*d*e*f*g, ~a|~b|~c|~d|~e|~f|~g"
+        ask = [FORM, MATCHINGS, NETS, nth(0), FORCED]
+        before = run(sequent(text), *ask)[1:]
+        got = run(sequent(text), PROVABLE, splits(0), *ask)
+        self.assertEqual(got[1:3], [[-8], [-8]])
+        self.assertEqual(got[3:], before)
+
+    def test_too_many_formulas_leave_everything_as_it_was(self):
+        text = "a|b, " + ", ".join(["a", "~a"] * 9 + ["~b"])
+        got = run(sequent(text), FORM, NETS, opened(0), FORM, NETS, MATCHINGS, shut(18), opened(0))
+        self.assertEqual(got[3], [-5])
+        self.assertEqual(got[4:6], got[1:3])
+        self.assertEqual(told(got[4]), text)
+        self.assertEqual(got[7:], [[19], [20]])
+
+    def test_refused_without_a_net(self):
+        ask = [FORM, MATCHINGS, NETS, PROVABLE, linked(0, 2)]
+        before = run(sequent("a|a, ~a|~a"), *ask)[1:]
+        got = run(sequent("a|a, ~a|~a"), FORCED, nth(0), *ask)
+        self.assertEqual(got[1:3], [[-4], [-4]])
+        self.assertEqual(got[3:], before)
 
 
 if __name__ == "__main__":

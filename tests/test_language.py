@@ -28,6 +28,9 @@ NOT_AS_NAMES = """register mro elements open input version_info with_traceback a
     breakpoint builtins compile copyright credits delattr dir eval exec exit gc getattr globals hasattr help id
     importlib license locals methodcaller os quit setattr super type vars sys chr""".split()
 
+WALKED = "zip enumerate reversed range items keys values".split()
+WALKERS = "list tuple dict sorted sum any all enumerate zip min max".split()
+
 
 def package_files():
     return sorted(name for name in os.listdir(PACKAGE) if name != "__pycache__")
@@ -44,6 +47,10 @@ def nodes_of(kinds):
         for node in ast.walk(ast.parse(source_of(name))):
             if isinstance(node, kinds):
                 yield node, f"{name}:{getattr(node, 'lineno', 0)}"
+
+
+def called_name(call):
+    return call.func.attr if isinstance(call.func, ast.Attribute) else getattr(call.func, "id", None)
 
 
 def bound_names(tree):
@@ -183,6 +190,17 @@ class Code(unittest.TestCase):
         for node, where in nodes_of(ast.Call):
             if isinstance(node.func, ast.Attribute):
                 self.assertIn(node.func.attr, own | set(METHODS), where)
+
+    def test_what_is_walked_at_once(self):
+        for name in package_files():
+            tree = ast.parse(source_of(name))
+            walked = [node.iter for node in ast.walk(tree) if isinstance(node, (ast.For, ast.comprehension))]
+            for node in ast.walk(tree):
+                if isinstance(node, ast.Call) and isinstance(node.func, ast.Name) and node.func.id in WALKERS:
+                    walked += node.args if node.func.id == "zip" else node.args[:1]
+            for node in ast.walk(tree):
+                if isinstance(node, ast.Call) and called_name(node) in WALKED:
+                    self.assertIn(node, walked, f"{name}:{node.lineno}")
 
     def test_values_of_objects(self):
         methods, values = set(), set()
